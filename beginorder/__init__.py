@@ -1,0 +1,1 @@
+"""The shortest order of a block of instructions."""
