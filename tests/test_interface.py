@@ -5,16 +5,48 @@ import io
 import unittest
 
 from beginorder.block import UnknownCall, answers
-from tests.helpers import GREATEST, INIT, add, joined, kind, plain, units, width
+from tests.helpers import (
+    BEST, BOUND, CLEAR, GREATEST, INIT, add, dep, joined, kind, plain, split_answers, time, told, units, width,
+)
+from tests.model import model_answers
 
 CALLS = joined([
     width(2), units(1, 3), kind(1, 2, 3), add(0, [1, 2, 3, 4], [5, 6], 1, 15),
-    add(0, [1] * 100, [2] * 100, 0, GREATEST), add(0, [], [], 0, 0), INIT, kind(0, 0, 0),
+    add(0, [1] * 100, [2] * 100, 0, GREATEST), add(0, [], [], 0, 0), dep(0, 1), BOUND, time([1, 0]),
+    time([GREATEST] * 100), BEST, CLEAR, BEST, INIT, kind(0, 0, 0),
 ])
-ANSWERED = plain(0, 0, 0, 0, -1, 1, 0, -1)
+ANSWERED = (
+    plain(0, 0, 0, 0, -1, 1, 0, 3) + told(3, [0, 0]) + plain(-1) + told(3, [0, 1, 0, 0]) + plain(0, 0, 0, -1)
+)
 
 
-def refuse(*told):
+def mixed_calls():
+    """400 calls, among them all ten; best is asked over blocks of 6 without any bits."""
+    calls = [INIT]
+    for k in range(16):
+        calls.append(kind(k % 8, 1 + k, 32 - k))
+    turn = 0
+    while len(calls) + 23 <= 400:
+        calls += [CLEAR, width(1 + turn % 4), units(turn % 8, 1 + turn % 3)]
+        calls += [add((turn + k) % 16, [], [], 0, 0) for k in range(6)]
+        calls += [dep(0, 5), BOUND, time([5, 4, 3, 2, 1, 0]), time([0] * 6)] + [BEST] * 10
+        turn = turn + 1
+    return calls + [BEST] * (400 - len(calls))
+
+
+def model_answers_asked_once(calls):
+    """The model is slow at best, so of several in a row only the first is asked of it."""
+    asked = [k for k, call in enumerate(calls) if call != BEST or calls[k - 1] != BEST]
+    found = split_answers(model_answers([calls[k] for k in asked]))
+    given = []
+    at = -1
+    for k in range(len(calls)):
+        at = at + 1 if k in asked else at
+        given += told(*found[at])
+    return given
+
+
+def refuse(*what):
     raise AssertionError("what was handed in is changed")
 
 
@@ -46,6 +78,18 @@ class InterfaceTest(unittest.TestCase):
         self.assertEqual(answers(add(0, [], [], 0, 0)), plain(-1))
         self.assertEqual(answers(kind(0, 1, 1) + add(0, [], [], 0, 0)), plain(0, 0))
         self.assertEqual(answers(kind(0, 1, 1) + add(0, [], [], 0, 0)), plain(0, 0))
+        for empty in (BOUND, BEST, time([])):
+            self.assertEqual(answers(empty), plain(0))
+        self.assertEqual(answers(dep(0, 0)), plain(-1))
+
+    def test_the_machine_is_not_kept_either(self):
+        block = joined([kind(0, 4, 1), add(0, [], [], 0, 0), add(0, [], [], 0, 0), BEST])
+        self.assertEqual(answers(joined([width(4), units(0, 4)]) + block)[-8:], told(1, [0, 1, 0, 0]))
+        self.assertEqual(answers(block)[-8:], told(5, [0, 1, 0, 4]))
+
+    def test_the_same_twice_answers_the_same_twice(self):
+        for turn in range(2):
+            self.assertEqual(answers(list(CALLS)), ANSWERED)
 
     def test_it_prints_nothing(self):
         out, err = io.StringIO(), io.StringIO()
@@ -73,8 +117,38 @@ class InterfaceTest(unittest.TestCase):
             second = 1 if size <= 2 else -1
             self.assertEqual(answers(joined(calls)), plain(0, first, second, 0), size)
 
+    def test_orders_of_every_length_are_passed_over_whole(self):
+        for size in range(101):
+            order = [k % 10 for k in range(size)]
+            calls = [kind(0, 1, 1), add(0, [], [], 0, 0), time(order), BOUND]
+            answer = told(1, [0]) if size == 1 else told(-1)
+            self.assertEqual(answers(joined(calls)), plain(0, 0) + answer + plain(1), size)
+
+    def test_as_many_orders_as_there_may_be(self):
+        calls = joined([time([GREATEST] * 100)] * 156 + [BEST])
+        self.assertLessEqual(len(calls), 16000)
+        self.assertGreater(len(calls), 15900)
+        self.assertEqual(answers(calls), plain(*[-1] * 156, 0))
+
+    def test_400_calls_of_all_ten(self):
+        calls = mixed_calls()
+        self.assertEqual(len(calls), 400)
+        self.assertEqual({call[0] for call in calls}, set(range(10)))
+        flat = joined(calls)
+        kept = list(flat)
+        given = answers(flat)
+        self.assertEqual(flat, kept)
+        self.assertIs(type(given), list)
+        self.assertEqual({type(number) for number in given}, {int})
+        self.assertEqual(given, model_answers_asked_once(calls))
+
+    def test_393_times_best_of_6_that_all_take_as_long(self):
+        calls = [kind(0, 16, 32)] + [add(0, [], [], 0, 0)] * 6 + [BEST] * 393
+        best = (112, [0, 1, 2, 3, 4, 5, 0, 16, 32, 48, 64, 80])
+        self.assertEqual(split_answers(answers(joined(calls)))[7:], [best] * 393)
+
     def test_a_number_that_is_no_call(self):
-        for call in (10, GREATEST):
+        for call in (10, 11, 255, GREATEST):
             with self.assertRaises(UnknownCall):
                 answers([0, call])
 

@@ -1,4 +1,4 @@
-"""What the calls leave behind: no answer of these five calls tells of it yet."""
+"""What the calls that tell of machine and block leave behind on the object itself."""
 
 import unittest
 
